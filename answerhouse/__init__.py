@@ -1,0 +1,1 @@
+"""Answerhouse: plain texts, and questions answered by the rows that bear them."""
