@@ -3,7 +3,7 @@
 from answerhouse.bearing import bearers
 from answerhouse.errors import BadCount
 from answerhouse.lots import as_lots, masks_of
-from answerhouse.rows import check_question, check_saying, check_text, fillings, names_of
+from answerhouse.rows import check_question, check_saying, check_text, fillings, is_number, names_of
 from answerhouse.rules import CLASH, Rules
 from answerhouse.trials import Trial
 
@@ -62,11 +62,18 @@ def which(rows, question, *, answer="yes"):
     return [saying for saying in left if (saying in disturbing) == opposed]
 
 
+def words_of(rows, sayings):
+    """Tell a dict of the words by which a text answers sayings."""
+    trial = Trial(rows, names_of((*rows, *sayings)))
+    disturbing = trial.disturbing(sayings)
+    return {saying: word_of(saying in trial.base, saying in disturbing) for saying in sayings}
+
+
 def missing(rows, saying, *, most=1):
     """Tell the fewest sayings with which a saying would follow, None if more than most."""
     check_text(rows)
     check_saying(saying)
-    if not isinstance(most, int) or isinstance(most, bool) or not 0 <= most <= MOST_MISSING:
+    if not is_number(most, MOST_MISSING + 1):
         raise BadCount("no number of sayings from 0 to 2")
     trial = Trial(rows, names_of(rows))
     if saying in trial.base:

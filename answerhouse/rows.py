@@ -1,6 +1,6 @@
 """Words, rows and sayings: their forms, and the words that rows tell of."""
 
-from answerhouse.errors import BadRow, BadSaying
+from answerhouse.errors import BadRow, BadSaying, NoRow
 
 MOST_ROWS = 24
 LONGEST_WORD = 6
@@ -55,6 +55,11 @@ def is_question(question):
     return is_saying(tuple(["a" if word is None else word for word in question]))
 
 
+def is_number(number, many):
+    """Tell whether something is a number from 0 to below many."""
+    return isinstance(number, int) and not isinstance(number, bool) and 0 <= number < many
+
+
 def check_text(rows):
     """Refuse what is no text."""
     if not isinstance(rows, tuple):
@@ -74,6 +79,12 @@ def check_question(question):
     """Refuse what is no question."""
     if not is_question(question):
         raise BadSaying("no question")
+
+
+def check_number(number, many):
+    """Refuse what is no number from 0 to below many."""
+    if not is_number(number, many):
+        raise NoRow("no row of such a number")
 
 
 def told_of(rows, place):

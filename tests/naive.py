@@ -118,3 +118,52 @@ def missing(rows, saying, most):
                 if least_lots(rows, lambda lot: clash([*lot, *told])) == ahead:
                     return told
     return None
+
+
+def without(rows, numbers):
+    return [row for number, row in enumerate(rows) if number not in numbers]
+
+
+def mended(rows):
+    for size in range(len(rows) + 1):
+        for lot in combinations(range(len(rows)), size):
+            if not clash(without(rows, lot)):
+                return lot
+
+
+def trusted(rows):
+    return follows(without(rows, {number for lot in clashes(rows) for number in lot}))
+
+
+def needless(rows):
+    def told(some):
+        return follows(some), clash(some)
+
+    return [number for number in range(len(rows)) if told(without(rows, [number])) == told(rows)]
+
+
+def hanging(rows, number):
+    return sorted(set(follows(rows)) - set(follows(without(rows, [number]))))
+
+
+def parted(rows, other):
+    first, second = set(follows(rows)), set(follows(other))
+    return sorted(first - second), sorted(second - first)
+
+
+def goes_by(row, ahead, saying):
+    if not ahead:
+        return saying == row
+    if len(ahead) == 1:
+        return saying in by_one(row, ahead[0])
+    return saying in by_two(row, *ahead)
+
+
+def first_bad_step(rows, steps):
+    """For steps of the right kinds of values: the number of the first that can't be, or None."""
+    for at, (saying, number, ahead) in enumerate(steps):
+        if not 0 <= number < len(rows) or len(ahead) > 2 or not all(0 <= other < at for other in ahead):
+            return at
+        if saying[0] not in ("is", "has") or not goes_by(rows[number], [steps[k][0] for k in ahead], saying):
+            return at
+    return None

@@ -3,7 +3,7 @@
 import inspect
 import unittest
 
-from answerhouse import asking, bearing, errors
+from answerhouse import asking, bearing, errors, houses, mending, notes, papers
 
 PLAIN = ("BadSaying", "BadCount", "NoRow", "NoFollow")
 NUMBERED = ("BadRow", "BadSteps", "BadDeed")
@@ -42,6 +42,15 @@ class Interface(unittest.TestCase):
         self.assert_listed(asking, "against", "(rows, saying)")
         self.assert_listed(asking, "which", "(rows, question, *, answer='yes')")
         self.assert_listed(asking, "missing", "(rows, saying, *, most=1)")
+        for name in ("mended", "trusted", "needless"):
+            self.assert_listed(mending, name, "(rows)")
+        self.assert_listed(mending, "hanging", "(rows, number)")
+        self.assert_listed(mending, "parted", "(rows, other)")
+        self.assert_listed(papers, "paper", "(rows, saying)")
+        self.assert_listed(papers, "read_steps", "(rows, steps)")
+        self.assert_listed(houses, "House", "(rows)")
+        self.assert_listed(notes, "written", "(rows)")
+        self.assert_listed(notes, "read", "(text)")
 
 
 if __name__ == "__main__":

@@ -5,6 +5,10 @@ import unittest
 from answerhouse.asking import against, ask, missing, which
 from answerhouse.bearing import bearers, clashes, follows
 from answerhouse.errors import BadCount, BadRow, BadSaying
+from answerhouse.houses import House
+from answerhouse.mending import hanging, mended, needless, parted, trusted
+from answerhouse.notes import written
+from answerhouse.papers import paper, read_steps
 from tests.made import NO_ROWS, NO_SUCH_THINGS
 
 SAYING = ("is", "a", "k")
@@ -25,10 +29,30 @@ ALL_FUNCTIONS = (
     lambda rows: missing(rows, SAYING),
 )
 
+# All doors that take a text, with what is refused behind it, too.
+DOORS = ALL_FUNCTIONS + (
+    lambda rows: bearers(rows, None),
+    lambda rows: against(rows, None),
+    lambda rows: ask(rows, None),
+    lambda rows: which(rows, None, answer=None),
+    lambda rows: missing(rows, None, most=None),
+    mended,
+    trusted,
+    needless,
+    lambda rows: hanging(rows, None),
+    lambda rows: parted(rows, None),
+    lambda rows: parted((), rows),
+    lambda rows: parted(ONE_OF_EACH, rows),
+    lambda rows: paper(rows, None),
+    lambda rows: read_steps(rows, None),
+    House,
+    written,
+)
+
 
 class Texts(unittest.TestCase):
     def assert_bad_row(self, rows, number):
-        for function in ALL_FUNCTIONS:
+        for function in DOORS:
             with self.assertRaises(BadRow) as caught:
                 function(rows)
             self.assertEqual(caught.exception.number, number, rows)
