@@ -12,7 +12,7 @@ def mended(rows):
     left_out = []
     for number in range(len(rows)):
         rest = without(lots, number)
-        # A number with which the fewest still suffice stands in the first lot that begins as this one.
+        # The first number with which the fewest still suffice goes on with the first of such lots.
         if len(rest) < len(lots) and suffice(many - len(left_out) - 1, rest):
             left_out.append(number)
             lots = rest
